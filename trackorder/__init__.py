@@ -1,0 +1,1 @@
+"""Trackorder: who came first, read from crossed footprints."""
